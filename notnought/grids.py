@@ -20,7 +20,7 @@ def coefficient(p, n, f, t):
 
 def somewhere(p, n, f, g):
     """n, then the first point of grid g at which f is not 0."""
-    if not has_sizes(p, n) or not is_polynomial(p, n, f) or not is_grid(p, n, g):
+    if not are_as_told(p, n, f, g):
         return [NOT_AS_TOLD]
     terms = terms_of(n, f)
     for point in points_of(g):
@@ -29,9 +29,40 @@ def somewhere(p, n, f, g):
     return [NOUGHT_ON_ALL]
 
 
+def summed(p, n, f, g):
+    """All values of f on grid g, each divided by its point's weight; then 1 if f's degree is low enough, else 0."""
+    if not are_as_told(p, n, f, g):
+        return [NOT_AS_TOLD]
+    terms = terms_of(n, f)
+    total = 0
+    for point in points_of(g):
+        value = value_at(p, terms, point)
+        total = (total + value * inverse_of(p, point_weight(p, g, point))) % p
+    highest = sum([count - 1 for count in counts_of(g)])
+    return [total, 1 if degree_of(terms) <= highest else 0]
+
+
+def sure(p, n, f, g):
+    """1 if in a term of f's degree each unknown stands less often than g has numbers for it, else 0."""
+    if not are_as_told(p, n, f, g):
+        return [NOT_AS_TOLD]
+    terms = terms_of(n, f)
+    degree = degree_of(terms)
+    counts = counts_of(g)
+    for term in terms:
+        if term_degree(term) == degree and is_within(term, counts):
+            return [1]
+    return [0]
+
+
 def has_sizes(p, n):
     """Whether p is one of the primes and n a number of unknowns."""
     return p in PRIMES and 1 <= n and n <= MOST_UNKNOWNS
+
+
+def are_as_told(p, n, f, g):
+    """Whether p and n are as told, f is a polynomial and g a grid."""
+    return has_sizes(p, n) and is_polynomial(p, n, f) and is_grid(p, n, g)
 
 
 def terms_of(n, f):
@@ -61,8 +92,22 @@ def is_term(p, term):
 
 def place_of(term):
     """What a term is ordered by: its degree, then how often each unknown stands in it."""
-    times = term[1:]
-    return [sum(times)] + times
+    return [term_degree(term)] + term[1:]
+
+
+def term_degree(term):
+    """How many unknowns stand in the term, counted as often as they do."""
+    return sum(term[1:])
+
+
+def degree_of(terms):
+    """The greatest degree of a term, 0 if there are none."""
+    return max([0] + [term_degree(term) for term in terms])
+
+
+def is_within(term, counts):
+    """Whether each unknown stands less often in the term than its count tells."""
+    return all([times < count for times, count in zip(term[1:], counts)])
 
 
 def rows_of(g):
@@ -97,6 +142,11 @@ def is_rising(p, numbers):
     return len(numbers) > 0
 
 
+def counts_of(g):
+    """How many numbers grid g has for each unknown."""
+    return [row[0] for row in rows_of(g)]
+
+
 def points_of(g):
     """The points of grid g, by the first unknown's number, then by the second's, and so on."""
     points = [[]]
@@ -121,6 +171,36 @@ def term_value(p, term, point):
     """The factor times each unknown's number, as often as the unknown stands in the term."""
     product = term[0]
     for number, times in zip(point, term[1:]):
-        for turn in range(times):
-            product = product * number % p
+        product = product * power_of(p, number, times) % p
+    return product
+
+
+def power_of(p, number, times):
+    """The number multiplied so many times; 1 if none."""
+    product = 1
+    for turn in range(times):
+        product = product * number % p
+    return product
+
+
+def inverse_of(p, number):
+    """What the number, which isn't 0, is multiplied by to make 1."""
+    # By Fermat the number multiplied p - 1 times makes 1, so one time less is what makes it 1.
+    return power_of(p, number, p - 2)
+
+
+def point_weight(p, g, point):
+    """The product of the weights of all the point's numbers, each in its row of grid g."""
+    product = 1
+    for number, row in zip(point, rows_of(g)):
+        product = product * number_weight(p, number, row[1:]) % p
+    return product
+
+
+def number_weight(p, number, numbers):
+    """The product of the number less each other one; it isn't 0, as no two below p are alike modulo p."""
+    product = 1
+    for other in numbers:
+        if other != number:
+            product = product * (number - other) % p
     return product

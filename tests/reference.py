@@ -1,8 +1,11 @@
-"""A second reckoning of what the calls answer, written apart from the program."""
+"""What the tests share: a second reckoning, written apart from the program, of what the calls
+answer, and the tests that every call with a grid must pass."""
 
 import itertools
+import math
 
 LARGEST = 4294967295
+REFUSED = [-22]
 
 
 class Untouchable(list):
@@ -75,6 +78,66 @@ def first_point(p, n, terms, numbers_by_unknown):
     return [-33]
 
 
+def division_sum(p, terms, numbers_by_unknown):
+    """All values on the grid, each divided by its point's weight."""
+    total = 0
+    for point in itertools.product(*numbers_by_unknown):
+        weight = 1
+        for k, numbers in enumerate(numbers_by_unknown):
+            for other in set(numbers) - {point[k]}:
+                weight *= point[k] - other
+        total += value(p, terms, point) * pow(weight, -1, p)
+    return total % p
+
+
+def symmetric_sum(p, terms, numbers_by_unknown):
+    """The same without a division: of a power of one unknown such a sum is what all products of as
+    many numbers of its row come to as the power is too high for the row."""
+    total = 0
+    for times, factor in terms.items():
+        product = factor
+        for exponent, numbers in zip(times, numbers_by_unknown):
+            product *= all_products(numbers, exponent - len(numbers) + 1)
+        total += product
+    return total % p
+
+
+def all_products(numbers, size):
+    if size < 0:
+        return 0
+    chosen = itertools.combinations_with_replacement(numbers, size)
+    return sum(math.prod(some) for some in chosen)
+
+
+def degree(terms):
+    return max(map(sum, terms), default=0)
+
+
+def room(numbers_by_unknown):
+    """The grid's numbers, of each unknown one less, together."""
+    return sum(len(numbers) - 1 for numbers in numbers_by_unknown)
+
+
+def is_sure(terms, numbers_by_unknown):
+    for times in terms:
+        if sum(times) == degree(terms):
+            if all(k < len(numbers) for k, numbers in zip(times, numbers_by_unknown)):
+                return True
+    return False
+
+
+def times_linear(p, n, terms, number):
+    """The polynomial times x1 less the number, without the terms that would go above 12."""
+    product = {}
+    for times, factor in terms.items():
+        if times[0] == 12:
+            continue
+        more = (times[0] + 1,) + times[1:]
+        product[more] = (product.get(more, 0) + factor) % p
+        product[times] = (product.get(times, 0) - factor * number) % p
+    return {times: factor for times, factor in product.items() if factor}
+
+
 def some_terms(random, p, n, most_terms, most_times):
     terms = {}
     for turn in range(random.randint(0, most_terms)):
@@ -85,6 +148,38 @@ def some_terms(random, p, n, most_terms, most_times):
 
 def some_numbers(random, p, n):
     return [sorted(random.sample(range(p), random.randint(1, p))) for k in range(n)]
+
+
+def some_cases(random, turns):
+    """p, n, the terms of a polynomial and a grid's numbers, so many times."""
+    for turn in range(turns):
+        p = random.choice((2, 3, 5, 7))
+        n = random.randint(1, 3)
+        terms = some_terms(random, p, n, 6, random.choice((1, 2, 4, 12)))
+        yield p, n, terms, some_numbers(random, p, n)
+
+
+def fitting_cases(random, turns):
+    """The same, but a term of the polynomial's degree always fits into the grid."""
+    for turn in range(turns):
+        p = random.choice((2, 3, 5, 7))
+        n = random.randint(1, 3)
+        numbers = some_numbers(random, p, n)
+        top = tuple(random.randint(0, len(row) - 1) for row in numbers)
+        terms = some_terms(random, p, n, 10, 4)
+        terms = {times: factor for times, factor in terms.items() if sum(times) <= sum(top)}
+        terms[top] = random.randint(1, p - 1)
+        yield p, n, terms, numbers
+
+
+def all_small_cases():
+    """p, n, the terms of every polynomial of few terms and the numbers of every grid."""
+    for p, n, most_times, most_terms in ((2, 1, 4, 5), (2, 2, 2, 3), (2, 3, 1, 2), (3, 1, 4, 3), (3, 2, 2, 2)):
+        grids = list(grids_of(p, n).values())
+        for row in sorted(polynomials_of(p, n, range(max(p, most_times + 1)), most_terms)):
+            terms = {row[k + 1:k + n + 1]: row[k] for k in range(0, len(row), n + 1)}
+            for numbers in grids:
+                yield p, n, terms, numbers
 
 
 def words(letters, longest):
@@ -123,3 +218,127 @@ BAD_POLYNOMIALS = {
 
 BAD_PRIMES = (0, 1, 4, 6, 8, 9, 11, 13, LARGEST - 4, LARGEST)
 BAD_COUNTS = (0, 4, 5, 399, 400, LARGEST)
+
+# Rows that are no grid for p = 5 and n = 2, and why.
+BAD_GRIDS = {
+    "nothing": [],
+    "one row": [2, 0, 1],
+    "three rows": [1, 0, 1, 0, 1, 0],
+    "a number too few": [1, 0, 2, 0],
+    "a count alone": [1, 0, 1],
+    "a number too many": [1, 0, 1, 0, 0],
+    "count too large by far": [1, 0, LARGEST, 0],
+    "first count too large by far": [LARGEST, 0, 1, 0],
+    "none for the first unknown": [0, 1, 0],
+    "none for the second unknown": [1, 0, 0],
+    "none for both": [0, 0],
+    "none for a third": [1, 0, 1, 0, 0],
+    "first row falls": [2, 1, 0, 1, 0],
+    "second row falls": [1, 0, 2, 1, 0],
+    "falls at its end": [1, 0, 3, 0, 2, 1],
+    "first row has one twice": [2, 1, 1, 1, 0],
+    "second row has one twice": [1, 0, 2, 3, 3],
+    "number p": [1, 5, 1, 0],
+    "number p in the second row": [1, 0, 1, 5],
+    "number p behind others": [1, 0, 3, 0, 1, 5],
+    "more numbers than there are": [6, 0, 1, 2, 3, 4, 5, 1, 0],
+    "largest number": [1, LARGEST, 1, 0],
+    "400 zeros": [0] * 400,
+    "400 ones": [1] * 400,
+    "400 of the largest": [LARGEST] * 400,
+}
+
+
+def short_grids():
+    """p, n, every short row, and its numbers for each unknown, None if it is no grid."""
+    for p, n, longest in ((2, 1, 5), (2, 2, 6), (2, 3, 7), (3, 1, 5), (3, 2, 7), (3, 3, 7)):
+        right = grids_of(p, n)
+        for g in words((0, 1, 2, 3), longest):
+            yield p, n, g, right.get(tuple(g))
+
+
+class GridRefusals:
+    """What a call with p, n, f and g refuses; the call is told by the class that draws on this."""
+
+    def test_p(self):
+        for p in BAD_PRIMES:
+            self.assertEqual(self.call(p, 1, [1, 0], [1, 0]), REFUSED, p)
+            self.assertEqual(self.call(p, 1, [], [1, 0]), REFUSED, p)
+
+    def test_n(self):
+        for n in BAD_COUNTS:
+            self.assertEqual(self.call(5, n, [], [1, 0] * min(n, 200)), REFUSED, n)
+            self.assertEqual(self.call(5, n, [1, 0], [1, 0]), REFUSED, n)
+        self.assertEqual(self.call(5, 0, [1], []), REFUSED)
+        self.assertEqual(self.call(5, 4, [1, 0, 0, 0, 0], [1, 0] * 4), REFUSED)
+
+    def test_f(self):
+        for why, f in BAD_POLYNOMIALS.items():
+            self.assertEqual(self.call(5, 2, f, [2, 0, 1, 2, 0, 1]), REFUSED, why)
+
+    def test_g(self):
+        for why, g in BAD_GRIDS.items():
+            self.assertEqual(self.call(5, 2, [1, 0, 0], g), REFUSED, why)
+            self.assertEqual(self.call(5, 2, [], g), REFUSED, why)
+
+    def test_several_at_once(self):
+        for p, n in itertools.product((6, LARGEST, 5), (0, LARGEST, 2)):
+            for f in ([0, 1, 1], [LARGEST] * 400, [1, 0, 0]):
+                for g in ([], [LARGEST] * 400, [1, 0, 1, 0]):
+                    right = (p, n, f, g) == (5, 2, [1, 0, 0], [1, 0, 1, 0])
+                    self.assertEqual(self.call(p, n, f, g) != REFUSED, right, (p, n, f, g))
+
+    def test_every_short_polynomial(self):
+        for p, n, letters, terms in (
+            (2, 1, (0, 1, 2, 12, 13), 3),
+            (3, 2, (0, 1, 2, 3), 2),
+            (2, 3, (0, 1, 2), 2),
+        ):
+            right = polynomials_of(p, n, letters, terms)
+            for f in words(letters, terms * (n + 1)):
+                refused = self.call(p, n, f, [1, 1] * n) == REFUSED
+                self.assertEqual(refused, tuple(f) not in right, (p, n, f))
+
+    def test_every_short_grid(self):
+        for p, n, g, numbers in short_grids():
+            refused = self.call(p, n, [1] + [0] * n, g) == REFUSED
+            self.assertEqual(refused, numbers is None, (p, n, g))
+
+
+class GridHanded:
+    """That such a call leaves what is handed in, keeps nothing and gives back whole numbers."""
+
+    CALLS = (
+        (5, 2, [4, 0, 0, 1, 1, 1], [2, 1, 2, 2, 1, 3]),
+        (5, 2, [4, 0, 0, 1, 1, 1], [1, 2, 1, 3]),
+        (5, 2, [], [1, 2, 1, 3]),
+        (7, 3, [6, 0, 0, 0, 3, 12, 12, 12], [7, 0, 1, 2, 3, 4, 5, 6, 1, 3, 2, 1, 6]),
+        (5, 2, [4, 0, 0, 1, 1, 1], [2, 2, 1, 2, 1, 3]),
+        (5, 2, [4, 0, 0, 1, 1, 1], [2, 1, 2, 2, 1]),
+        (5, 2, [1, 1, 1, 4, 0, 0], [2, 1, 2, 2, 1, 3]),
+        (6, 2, [4, 0, 0, 1, 1, 1], [2, 1, 2, 2, 1, 3]),
+        (5, 0, [4, 0, 0, 1, 1, 1], [2, 1, 2, 2, 1, 3]),
+        (5, 2, [LARGEST] * 400, [LARGEST] * 400),
+    )
+
+    def test_lists_stay_as_they_were(self):
+        for p, n, f, g in self.CALLS:
+            handed_f, handed_g = Untouchable(f), Untouchable(g)
+            self.call(p, n, handed_f, handed_g)
+            self.assertEqual((handed_f, handed_g), (f, g))
+            plain_f, plain_g = list(f), list(g)
+            self.call(p, n, plain_f, plain_g)
+            self.assertEqual((plain_f, plain_g), (f, g))
+
+    def test_nothing_is_kept(self):
+        for p, n, f, g in self.CALLS:
+            first = self.call(p, n, list(f), list(g))
+            kept = list(first)
+            first.append(99)
+            self.assertEqual(self.call(p, n, list(f), list(g)), kept)
+
+    def test_one_list_of_whole_numbers(self):
+        for p, n, f, g in self.CALLS:
+            answer = self.call(p, n, f, g)
+            self.assertIs(type(answer), list)
+            self.assertEqual({type(number) for number in answer}, {int})

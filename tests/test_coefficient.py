@@ -9,14 +9,13 @@ from reference import (
     BAD_POLYNOMIALS,
     BAD_PRIMES,
     LARGEST,
+    REFUSED,
     Untouchable,
     polynomial_row,
     polynomials_of,
     some_terms,
     words,
 )
-
-REFUSED = [-22]
 
 
 class Answers(unittest.TestCase):

@@ -5,52 +5,22 @@ import unittest
 from notnought.grids import somewhere
 
 from reference import (
-    BAD_COUNTS,
-    BAD_POLYNOMIALS,
-    BAD_PRIMES,
-    LARGEST,
-    Untouchable,
+    BAD_GRIDS,
+    REFUSED,
+    GridHanded,
+    GridRefusals,
     first_point,
+    fitting_cases,
     grid_row,
     grids_of,
     polynomial_row,
-    polynomials_of,
+    short_grids,
     some_numbers,
     some_terms,
-    words,
+    times_linear,
 )
 
-REFUSED = [-22]
 NOUGHT = [-33]
-
-# Rows that are no grid for p = 5 and n = 2, and why.
-BAD_GRIDS = {
-    "nothing": [],
-    "one row": [2, 0, 1],
-    "three rows": [1, 0, 1, 0, 1, 0],
-    "a number too few": [1, 0, 2, 0],
-    "a count alone": [1, 0, 1],
-    "a number too many": [1, 0, 1, 0, 0],
-    "count too large by far": [1, 0, LARGEST, 0],
-    "first count too large by far": [LARGEST, 0, 1, 0],
-    "none for the first unknown": [0, 1, 0],
-    "none for the second unknown": [1, 0, 0],
-    "none for both": [0, 0],
-    "none for a third": [1, 0, 1, 0, 0],
-    "first row falls": [2, 1, 0, 1, 0],
-    "second row falls": [1, 0, 2, 1, 0],
-    "falls at its end": [1, 0, 3, 0, 2, 1],
-    "first row has one twice": [2, 1, 1, 1, 0],
-    "second row has one twice": [1, 0, 2, 3, 3],
-    "number p": [1, 5, 1, 0],
-    "number p in the second row": [1, 0, 1, 5],
-    "number p behind others": [1, 0, 3, 0, 1, 5],
-    "more numbers than there are": [6, 0, 1, 2, 3, 4, 5, 1, 0],
-    "largest number": [1, LARGEST, 1, 0],
-    "400 zeros": [0] * 400,
-    "400 ones": [1] * 400,
-    "400 of the largest": [LARGEST] * 400,
-}
 
 
 class Answers(unittest.TestCase):
@@ -123,18 +93,7 @@ class Answers(unittest.TestCase):
         self.assertEqual(somewhere(2, 3, [1, 1, 1, 1], [2, 0, 1] * 3), [3, 1, 1, 1])
 
     def test_some_point_is_told_where_the_highest_term_fits(self):
-        source = random.Random(2)
-        for turn in range(300):
-            p = source.choice((2, 3, 5, 7))
-            n = source.randint(1, 3)
-            numbers = some_numbers(source, p, n)
-            top = tuple(source.randint(0, len(row) - 1) for row in numbers)
-            terms = {
-                times: factor
-                for times, factor in some_terms(source, p, n, 10, 4).items()
-                if sum(times) <= sum(top)
-            }
-            terms[top] = source.randint(1, p - 1)
+        for p, n, terms, numbers in fitting_cases(random.Random(2), 300):
             answer = somewhere(p, n, polynomial_row(terms), grid_row(numbers))
             self.assertEqual(answer[0], n)
 
@@ -171,37 +130,8 @@ class Answers(unittest.TestCase):
         self.assertEqual(somewhere(7, 3, f, grid_row([range(7)] * 3)), NOUGHT)
 
 
-def times_linear(p, n, terms, number):
-    product = {}
-    for times, factor in terms.items():
-        if times[0] == 12:
-            continue
-        more = (times[0] + 1,) + times[1:]
-        product[more] = (product.get(more, 0) + factor) % p
-        product[times] = (product.get(times, 0) - factor * number) % p
-    return {times: factor for times, factor in product.items() if factor}
-
-
-class Refusals(unittest.TestCase):
-    def test_p(self):
-        for p in BAD_PRIMES:
-            self.assertEqual(somewhere(p, 1, [1, 0], [1, 0]), REFUSED, p)
-            self.assertEqual(somewhere(p, 1, [], [1, 0]), REFUSED, p)
-
-    def test_n(self):
-        for n in BAD_COUNTS:
-            self.assertEqual(somewhere(5, n, [], [1, 0] * min(n, 200)), REFUSED, n)
-            self.assertEqual(somewhere(5, n, [1, 0], [1, 0]), REFUSED, n)
-        self.assertEqual(somewhere(5, 0, [1], []), REFUSED)
-        self.assertEqual(somewhere(5, 4, [1, 0, 0, 0, 0], [1, 0] * 4), REFUSED)
-
-    def test_f(self):
-        for why, f in BAD_POLYNOMIALS.items():
-            self.assertEqual(somewhere(5, 2, f, [2, 0, 1, 2, 0, 1]), REFUSED, why)
-
-    def test_g(self):
-        for why, g in BAD_GRIDS.items():
-            self.assertEqual(somewhere(5, 2, [1, 0, 0], g), REFUSED, why)
+class Refusals(GridRefusals, unittest.TestCase):
+    call = staticmethod(somewhere)
 
     def test_not_as_told_goes_ahead_of_nought(self):
         for why, g in BAD_GRIDS.items():
@@ -209,68 +139,14 @@ class Refusals(unittest.TestCase):
         self.assertEqual(somewhere(4, 2, [], [1, 0, 1, 0]), REFUSED)
         self.assertEqual(somewhere(5, 2, [0, 1, 1], [1, 0, 1, 0]), REFUSED)
 
-    def test_several_at_once(self):
-        for p, n in itertools.product((6, LARGEST, 5), (0, LARGEST, 2)):
-            for f in ([0, 1, 1], [LARGEST] * 400, [1, 0, 0]):
-                for g in ([], [LARGEST] * 400, [1, 0, 1, 0]):
-                    right = (p, n, f, g) == (5, 2, [1, 0, 0], [1, 0, 1, 0])
-                    self.assertEqual(somewhere(p, n, f, g), [2, 0, 0] if right else REFUSED)
-
-    def test_every_short_polynomial(self):
-        for p, n, letters, terms in (
-            (2, 1, (0, 1, 2, 12, 13), 3),
-            (3, 2, (0, 1, 2, 3), 2),
-            (2, 3, (0, 1, 2), 2),
-        ):
-            right = polynomials_of(p, n, letters, terms)
-            for f in words(letters, terms * (n + 1)):
-                refused = somewhere(p, n, f, [1, 1] * n) == REFUSED
-                self.assertEqual(refused, tuple(f) not in right, (p, n, f))
-
-    def test_every_short_grid(self):
-        for p, n, longest in ((2, 1, 5), (2, 2, 6), (2, 3, 7), (3, 1, 5), (3, 2, 7), (3, 3, 7)):
-            right = grids_of(p, n)
-            one = [1] + [0] * n
-            for g in words((0, 1, 2, 3), longest):
-                numbers = right.get(tuple(g))
-                first = REFUSED if numbers is None else [n] + [row[0] for row in numbers]
-                self.assertEqual(somewhere(p, n, one, g), first, (p, n, g))
+    def test_the_first_point_of_every_short_grid(self):
+        for p, n, g, numbers in short_grids():
+            first = REFUSED if numbers is None else [n] + [row[0] for row in numbers]
+            self.assertEqual(somewhere(p, n, [1] + [0] * n, g), first, (p, n, g))
 
 
-class Handed(unittest.TestCase):
-    CALLS = (
-        (5, 2, [4, 0, 0, 1, 1, 1], [2, 1, 2, 2, 1, 3]),
-        (5, 2, [4, 0, 0, 1, 1, 1], [1, 2, 1, 3]),
-        (5, 2, [], [1, 2, 1, 3]),
-        (5, 2, [4, 0, 0, 1, 1, 1], [2, 2, 1, 2, 1, 3]),
-        (5, 2, [4, 0, 0, 1, 1, 1], [2, 1, 2, 2, 1]),
-        (5, 2, [1, 1, 1, 4, 0, 0], [2, 1, 2, 2, 1, 3]),
-        (6, 2, [4, 0, 0, 1, 1, 1], [2, 1, 2, 2, 1, 3]),
-        (5, 0, [4, 0, 0, 1, 1, 1], [2, 1, 2, 2, 1, 3]),
-        (5, 2, [LARGEST] * 400, [LARGEST] * 400),
-    )
-
-    def test_lists_stay_as_they_were(self):
-        for p, n, f, g in self.CALLS:
-            handed_f, handed_g = Untouchable(f), Untouchable(g)
-            somewhere(p, n, handed_f, handed_g)
-            self.assertEqual((handed_f, handed_g), (f, g))
-            plain_f, plain_g = list(f), list(g)
-            somewhere(p, n, plain_f, plain_g)
-            self.assertEqual((plain_f, plain_g), (f, g))
-
-    def test_nothing_is_kept(self):
-        for p, n, f, g in self.CALLS:
-            first = somewhere(p, n, list(f), list(g))
-            kept = list(first)
-            first.append(99)
-            self.assertEqual(somewhere(p, n, list(f), list(g)), kept)
-
-    def test_one_list_of_whole_numbers(self):
-        for p, n, f, g in self.CALLS:
-            answer = somewhere(p, n, f, g)
-            self.assertIs(type(answer), list)
-            self.assertEqual({type(number) for number in answer}, {int})
+class Handed(GridHanded, unittest.TestCase):
+    call = staticmethod(somewhere)
 
 
 if __name__ == "__main__":
