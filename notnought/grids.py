@@ -1,4 +1,4 @@
-"""Polynomials modulo a small prime, and their values on grids."""
+"""Polynomials modulo a small prime and their values on grids, and the sums of sets of numbers."""
 
 PRIMES = (2, 3, 5, 7)
 MOST_UNKNOWNS = 3
@@ -55,6 +55,26 @@ def sure(p, n, f, g):
     return [0]
 
 
+def sums(p, a, b):
+    """How many numbers are sums of one of a and one of b, then these, rising."""
+    if p not in PRIMES or not is_rising(p, a) or not is_rising(p, b):
+        return [NOT_AS_TOLD]
+    found = []
+    for first in a:
+        found.extend([(first + second) % p for second in b])
+    return counted(found)
+
+
+def apart(p, a):
+    """How many numbers are sums of two different ones of a, then these, rising."""
+    if p not in PRIMES or not is_rising(p, a):
+        return [NOT_AS_TOLD]
+    found = []
+    for first in a:
+        found.extend([(first + second) % p for second in a if second != first])
+    return counted(found)
+
+
 def has_sizes(p, n):
     """Whether p is one of the primes and n a number of unknowns."""
     return p in PRIMES and 1 <= n and n <= MOST_UNKNOWNS
@@ -108,6 +128,12 @@ def degree_of(terms):
 def is_within(term, counts):
     """Whether each unknown stands less often in the term than its count tells."""
     return all([times < count for times, count in zip(term[1:], counts)])
+
+
+def counted(numbers):
+    """How many numbers there are, alike ones once, then these, rising."""
+    different = sorted(set(numbers))
+    return [len(different)] + different
 
 
 def rows_of(g):

@@ -109,6 +109,17 @@ def all_products(numbers, size):
     return sum(math.prod(some) for some in chosen)
 
 
+def sum_set(p, a, b):
+    """The numbers that are sums of one of a and one of b, rising."""
+    return [k for k in range(p) if any((k - number) % p in b for number in a)]
+
+
+def apart_set(p, a):
+    """The numbers that are sums of two different ones of a, rising."""
+    pairs = list(itertools.combinations(a, 2))
+    return [k for k in range(p) if any(sum(pair) in (k, k + p) for pair in pairs)]
+
+
 def degree(terms):
     return max(map(sum, terms), default=0)
 
@@ -248,6 +259,38 @@ BAD_GRIDS = {
     "400 of the largest": [LARGEST] * 400,
 }
 
+# Rows that are no set of numbers for p = 5, and why.
+BAD_SETS = {
+    "nothing": [],
+    "number p": [5],
+    "number above p": [6],
+    "largest number": [LARGEST],
+    "number p behind others": [0, 1, 5],
+    "largest number behind others": [0, 1, LARGEST],
+    "more numbers than there are": [0, 1, 2, 3, 4, 5],
+    "falls": [1, 0],
+    "falls from p": [5, 0],
+    "falls at its end": [0, 2, 1],
+    "falls at its start": [1, 0, 2],
+    "two alike": [3, 3],
+    "two zeros": [0, 0],
+    "two alike at its end": [0, 1, 4, 4],
+    "two alike at its start": [0, 0, 1],
+    "400 zeros": [0] * 400,
+    "400 ones": [1] * 400,
+    "400 that rise": list(range(400)),
+    "400 that rise to the largest": list(range(LARGEST - 399, LARGEST + 1)),
+    "400 of the largest": [LARGEST] * 400,
+}
+
+
+def short_rows():
+    """p, every short row, and whether it is a set of numbers below p."""
+    for p, longest in ((2, 5), (3, 5), (5, 4), (7, 4)):
+        right = set(subsets_of(p))
+        for row in words(range(p + 2), longest):
+            yield p, row, tuple(row) in right
+
 
 def short_grids():
     """p, n, every short row, and its numbers for each unknown, None if it is no grid."""
@@ -255,6 +298,31 @@ def short_grids():
         right = grids_of(p, n)
         for g in words((0, 1, 2, 3), longest):
             yield p, n, g, right.get(tuple(g))
+
+
+class SetRefusals:
+    """What a call refuses of p and a set of numbers; ask(p, row) is the call with all else right, told
+    by the class that draws on this."""
+
+    def test_p(self):
+        for p in BAD_PRIMES:
+            for row in ([0], [0, 1], [1], [], [0] * 400, [LARGEST]):
+                self.assertEqual(self.ask(p, row), REFUSED, (p, row))
+
+    def test_the_set(self):
+        for why, row in BAD_SETS.items():
+            self.assertEqual(self.ask(5, row), REFUSED, why)
+
+    def test_as_many_as_there_are_and_one_more(self):
+        for p in (2, 3, 5, 7):
+            self.assertNotEqual(self.ask(p, list(range(p))), REFUSED, p)
+            self.assertEqual(self.ask(p, list(range(p + 1))), REFUSED, p)
+            self.assertNotEqual(self.ask(p, [p - 1]), REFUSED, p)
+            self.assertEqual(self.ask(p, [p]), REFUSED, p)
+
+    def test_every_short_row(self):
+        for p, row, right in short_rows():
+            self.assertEqual(self.ask(p, row) != REFUSED, right, (p, row))
 
 
 class GridRefusals:
@@ -305,8 +373,57 @@ class GridRefusals:
             self.assertEqual(refused, numbers is None, (p, n, g))
 
 
-class GridHanded:
-    """That such a call leaves what is handed in, keeps nothing and gives back whole numbers."""
+class AnyHanded:
+    """That a call leaves what is handed in, keeps nothing and gives back whole numbers; the call and
+    what is handed to it (CALLS) are told by the class that draws on this."""
+
+    def test_lists_stay_as_they_were(self):
+        for given in self.CALLS:
+            for kind in (Untouchable, list):
+                handed = copied(given, kind)
+                self.call(*handed)
+                self.assertEqual(handed, list(given))
+
+    def test_one_list_as_each_of_them(self):
+        for given in self.CALLS:
+            for row in lists_of(given):
+                for kind in (Untouchable, list):
+                    one = kind(row)
+                    handed = [one if isinstance(part, list) else part for part in given]
+                    self.assertEqual(self.call(*handed), self.call(*copied(handed, list)), handed)
+                    self.assertEqual(one, row)
+
+    def test_nothing_is_kept(self):
+        for given in self.CALLS:
+            first = self.call(*copied(given, list))
+            kept = list(first)
+            first.append(99)
+            self.assertEqual(self.call(*copied(given, list)), kept)
+
+    def test_the_answer_is_none_of_the_lists_handed_in(self):
+        for given in self.CALLS:
+            answer = self.call(*given)
+            self.assertFalse(any(answer is row for row in lists_of(given)), given)
+
+    def test_one_list_of_whole_numbers(self):
+        for given in self.CALLS:
+            answer = self.call(*given)
+            self.assertIs(type(answer), list)
+            self.assertEqual({type(number) for number in answer}, {int})
+            self.assertTrue(answer in ([-22], [-33]) or min(answer) >= 0, given)
+
+
+def copied(given, kind):
+    """What is handed in, each list as one of its own of this kind."""
+    return [kind(part) if isinstance(part, list) else part for part in given]
+
+
+def lists_of(given):
+    return [part for part in given if isinstance(part, list)]
+
+
+class GridHanded(AnyHanded):
+    """The same of a call with p, n, f and g."""
 
     CALLS = (
         (5, 2, [4, 0, 0, 1, 1, 1], [2, 1, 2, 2, 1, 3]),
@@ -320,25 +437,3 @@ class GridHanded:
         (5, 0, [4, 0, 0, 1, 1, 1], [2, 1, 2, 2, 1, 3]),
         (5, 2, [LARGEST] * 400, [LARGEST] * 400),
     )
-
-    def test_lists_stay_as_they_were(self):
-        for p, n, f, g in self.CALLS:
-            handed_f, handed_g = Untouchable(f), Untouchable(g)
-            self.call(p, n, handed_f, handed_g)
-            self.assertEqual((handed_f, handed_g), (f, g))
-            plain_f, plain_g = list(f), list(g)
-            self.call(p, n, plain_f, plain_g)
-            self.assertEqual((plain_f, plain_g), (f, g))
-
-    def test_nothing_is_kept(self):
-        for p, n, f, g in self.CALLS:
-            first = self.call(p, n, list(f), list(g))
-            kept = list(first)
-            first.append(99)
-            self.assertEqual(self.call(p, n, list(f), list(g)), kept)
-
-    def test_one_list_of_whole_numbers(self):
-        for p, n, f, g in self.CALLS:
-            answer = self.call(p, n, f, g)
-            self.assertIs(type(answer), list)
-            self.assertEqual({type(number) for number in answer}, {int})

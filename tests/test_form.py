@@ -19,7 +19,7 @@ NODES = (
 )
 BUILTINS = (
     "len range enumerate zip min max sum abs sorted reversed int str bool list tuple dict "
-    "isinstance any all divmod"
+    "set isinstance any all divmod"
 ).split()
 METHODS = "append copy count extend get index insert items keys pop remove reverse values".split()
 WORDS = (
@@ -30,6 +30,10 @@ WORDS = (
 
 def sources():
     return sorted(PACKAGE.rglob("*.py"))
+
+
+def is_call_of(node, name):
+    return isinstance(node, ast.Call) and isinstance(node.func, ast.Name) and node.func.id == name
 
 
 class Form(unittest.TestCase):
@@ -78,6 +82,18 @@ class Form(unittest.TestCase):
             self.assertIsInstance(node.value, (int, str, type(None)), where)
         elif isinstance(node, (ast.For, ast.While)):
             self.assertEqual(node.orelse, [], where)
+
+    def test_a_set_stands_straight_within_sorted(self):
+        for path in sources():
+            nodes = list(ast.walk(ast.parse(path.read_text())))
+            within = [
+                node.args[0].func
+                for node in nodes
+                if is_call_of(node, "sorted") and not node.keywords and is_call_of(node.args[0], "set")
+            ]
+            for node in nodes:
+                if isinstance(node, ast.Name) and node.id == "set":
+                    self.assertIn(node, within, (path.name, node.lineno))
 
     def test_the_top_of_a_file_keeps_nothing_that_can_change(self):
         for path in sources():
