@@ -75,6 +75,19 @@ def apart(p, a):
     return counted(found)
 
 
+def common(p, n, f, h):
+    """At how many points both f and h are 0, then the numbers of these, rising."""
+    if not has_sizes(p, n) or not is_polynomial(p, n, f) or not is_polynomial(p, n, h):
+        return [NOT_AS_TOLD]
+    terms = terms_of(n, f)
+    others = terms_of(n, h)
+    found = []
+    for point in points_of(whole_grid(p, n)):
+        if value_at(p, terms, point) == 0 and value_at(p, others, point) == 0:
+            found.append(point_number(p, point))
+    return counted(found)
+
+
 def has_sizes(p, n):
     """Whether p is one of the primes and n a number of unknowns."""
     return p in PRIMES and 1 <= n and n <= MOST_UNKNOWNS
@@ -173,6 +186,11 @@ def counts_of(g):
     return [row[0] for row in rows_of(g)]
 
 
+def whole_grid(p, n):
+    """The grid that has all numbers for each unknown."""
+    return ([p] + list(range(p))) * n
+
+
 def points_of(g):
     """The points of grid g, by the first unknown's number, then by the second's, and so on."""
     points = [[]]
@@ -183,6 +201,14 @@ def points_of(g):
                 longer.append(point + [number])
         points = longer
     return points
+
+
+def point_number(p, point):
+    """x1, and p times x2, and p times p times x3, as far as the point has them."""
+    total = 0
+    for number in reversed(point):
+        total = total * p + number
+    return total
 
 
 def value_at(p, terms, point):

@@ -1,5 +1,5 @@
 """What the tests share: a second reckoning, written apart from the program, of what the calls
-answer, and the tests that every call with a grid must pass."""
+answer, and the tests that several calls must pass."""
 
 import itertools
 import math
@@ -107,6 +107,11 @@ def all_products(numbers, size):
         return 0
     chosen = itertools.combinations_with_replacement(numbers, size)
     return sum(math.prod(some) for some in chosen)
+
+
+def zero_set(p, n, terms):
+    """The numbers of all points at which the polynomial is 0, rising."""
+    return [k for k in range(p ** n) if value(p, terms, (k % p, k // p % p, k // p // p)[:n]) == 0]
 
 
 def sum_set(p, a, b):
@@ -325,24 +330,53 @@ class SetRefusals:
             self.assertEqual(self.ask(p, row) != REFUSED, right, (p, row))
 
 
-class GridRefusals:
-    """What a call with p, n, f and g refuses; the call is told by the class that draws on this."""
+class PolynomialRefusals:
+    """What a call refuses of p, n and a polynomial; ask(p, n, row) is the call with all else right (as
+    far as it can be, if n isn't), told by the class that draws on this."""
 
     def test_p(self):
         for p in BAD_PRIMES:
-            self.assertEqual(self.call(p, 1, [1, 0], [1, 0]), REFUSED, p)
-            self.assertEqual(self.call(p, 1, [], [1, 0]), REFUSED, p)
+            self.assertEqual(self.ask(p, 1, [1, 0]), REFUSED, p)
+            self.assertEqual(self.ask(p, 1, []), REFUSED, p)
 
     def test_n(self):
         for n in BAD_COUNTS:
-            self.assertEqual(self.call(5, n, [], [1, 0] * min(n, 200)), REFUSED, n)
-            self.assertEqual(self.call(5, n, [1, 0], [1, 0]), REFUSED, n)
-        self.assertEqual(self.call(5, 0, [1], []), REFUSED)
-        self.assertEqual(self.call(5, 4, [1, 0, 0, 0, 0], [1, 0] * 4), REFUSED)
+            self.assertEqual(self.ask(5, n, []), REFUSED, n)
+            self.assertEqual(self.ask(5, n, [1, 0]), REFUSED, n)
+            self.assertEqual(self.ask(5, n, [1] + [0] * min(n, 399)), REFUSED, n)
 
     def test_f(self):
         for why, f in BAD_POLYNOMIALS.items():
-            self.assertEqual(self.call(5, 2, f, [2, 0, 1, 2, 0, 1]), REFUSED, why)
+            self.assertEqual(self.ask(5, 2, f), REFUSED, why)
+
+    def test_order_of_terms(self):
+        for n, low, high in (
+            (2, [1, 0, 1], [2, 1, 0]),
+            (2, [1, 2, 0], [2, 0, 3]),
+            (3, [1, 1, 0, 1], [2, 1, 1, 0]),
+            (3, [1, 0, 2, 0], [2, 1, 0, 1]),
+            (3, [1, 12, 11, 12], [1, 12, 12, 11]),
+        ):
+            self.assertNotEqual(self.ask(5, n, low + high), REFUSED, (low, high))
+            self.assertEqual(self.ask(5, n, high + low), REFUSED, (low, high))
+
+    def test_every_short_polynomial(self):
+        for p, n, letters, terms in (
+            (2, 1, (0, 1, 2, 12, 13), 3),
+            (3, 1, (0, 1, 2, 3), 3),
+            (3, 2, (0, 1, 2, 3), 2),
+            (2, 3, (0, 1, 2), 2),
+        ):
+            right = polynomials_of(p, n, letters, terms)
+            for f in words(letters, terms * (n + 1)):
+                self.assertEqual(self.ask(p, n, f) == REFUSED, tuple(f) not in right, (p, n, f))
+
+
+class GridRefusals(PolynomialRefusals):
+    """What a call with p, n, f and g refuses; the call is told by the class that draws on this."""
+
+    def ask(self, p, n, f):
+        return self.call(p, n, f, [1, 1] * min(n, 200))
 
     def test_g(self):
         for why, g in BAD_GRIDS.items():
@@ -355,17 +389,6 @@ class GridRefusals:
                 for g in ([], [LARGEST] * 400, [1, 0, 1, 0]):
                     right = (p, n, f, g) == (5, 2, [1, 0, 0], [1, 0, 1, 0])
                     self.assertEqual(self.call(p, n, f, g) != REFUSED, right, (p, n, f, g))
-
-    def test_every_short_polynomial(self):
-        for p, n, letters, terms in (
-            (2, 1, (0, 1, 2, 12, 13), 3),
-            (3, 2, (0, 1, 2, 3), 2),
-            (2, 3, (0, 1, 2), 2),
-        ):
-            right = polynomials_of(p, n, letters, terms)
-            for f in words(letters, terms * (n + 1)):
-                refused = self.call(p, n, f, [1, 1] * n) == REFUSED
-                self.assertEqual(refused, tuple(f) not in right, (p, n, f))
 
     def test_every_short_grid(self):
         for p, n, g, numbers in short_grids():
